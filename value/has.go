@@ -115,7 +115,7 @@ func oneEach(list []api.Value, types ...api.Type) (claims, bool) {
 	if len(list) != len(types) {
 		return nil, false
 	}
-	var c claims
+	c := slices.Grow(claims(nil), len(list))
 	for i, v := range list {
 		c = append(c, claim{types[i], v})
 	}

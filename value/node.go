@@ -158,7 +158,7 @@ func readEach(nodes []api.Node, types ...api.Type) ([]api.Value, bool) {
 	if len(nodes) != len(types) {
 		return nil, false
 	}
-	var list []api.Value
+	list := slices.Grow([]api.Value(nil), len(nodes))
 	for i, n := range nodes {
 		v, ok := read(types[i], n)
 		if !ok {
